@@ -1,0 +1,1 @@
+"""Nets made from what's seen: the calls are answered in regionnets.nets."""
