@@ -1,4 +1,4 @@
-"""Holds the package's files against those rules of LANGUAGE.md that can be read off their text."""
+"""Holds the package's files against many of LANGUAGE.md's rules; L11, L13, L19, L22, L23, L26 to L28 only in part or not at all."""
 
 import ast
 import builtins
