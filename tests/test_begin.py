@@ -1,17 +1,23 @@
 import unittest
 
-from helper import (HIGHEST, OPEN_ONES, REGIONS, SMALL_SIZES, all_tellings, ask, begin, chain, crosses, everywhere,
-                    is_as_said, two_rings)
+from helper import (HIGHEST, NET, OPEN_ONES, PLACES, REGIONS, SAME, SMALL_SIZES, all_tellings, ask, begin, chain,
+                    crosses, everywhere, is_as_said, play, two_rings)
+
+LOOKS = [REGIONS, OPEN_ONES, crosses(), crosses(0), crosses(1), crosses(8), PLACES, NET, play(), play(0), play(5), SAME]
 
 
 def refused(call):
     """What begin answers, once it is clear that it left all as it was."""
-    looks = [REGIONS, OPEN_ONES, crosses(), crosses(0), crosses(1), crosses(8)]
-    new = ask(*looks, call, *looks)
-    old = ask(begin(9, 6, two_rings()), *looks, call, *looks)
-    if new[:6] != new[7:] or old[1:7] != old[8:] or new[6] != old[7]:
-        raise AssertionError(f"{call} is refused, but not all is as it was")
-    return new[6]
+    answered = []
+    for before in (begin(1, 1, [(0, 0, 0)]), begin(9, 6, two_rings())):
+        told = ask(before, *LOOKS, call, *LOOKS)
+        if told[1:1 + len(LOOKS)] != told[2 + len(LOOKS):]:
+            raise AssertionError(f"{call} is refused, but not all is as it was")
+        answered.append(told[1 + len(LOOKS)])
+    new = ask(call, *LOOKS)
+    if new[1:] != ask(*LOOKS) or answered != [new[0], new[0]]:
+        raise AssertionError(f"{call} is not refused alike, or not all is as it was before any begin")
+    return new[0]
 
 
 class BeforeAnyBegin(unittest.TestCase):
@@ -19,9 +25,12 @@ class BeforeAnyBegin(unittest.TestCase):
         told = ask(REGIONS, OPEN_ONES, crosses(), crosses(0), crosses(1))
         self.assertEqual(told, [[0], [0], [1, 0], [1, 0], [-3]])
 
+    def test_a_net_of_no_places(self):
+        told = ask(PLACES, NET, play(), play(0), play(0, 0), play(1), SAME)
+        self.assertEqual(told, [[0], [0, 0, 0], [0], [1], [2], [-6], [1, 1]])
+
     def test_it_is_what_such_a_begin_tells(self):
-        looks = [REGIONS, OPEN_ONES, crosses(), crosses(0), crosses(1)]
-        self.assertEqual(ask(begin(1, 1, [(0, 0, 0)]), *looks)[1:], ask(*looks))
+        self.assertEqual(ask(begin(1, 1, [(0, 0, 0)]), *LOOKS)[1:], ask(*LOOKS))
 
 
 class Begin(unittest.TestCase):

@@ -1,4 +1,7 @@
-"""Holds the package's files against many of LANGUAGE.md's rules; L11, L13, L19, L22, L23, L26 to L28 only in part or not at all."""
+"""Holds the package's files against many of LANGUAGE.md's rules.
+
+L11, L13, L19, L22, L23, L26 to L28 are held only in part or not at all.
+"""
 
 import ast
 import builtins
